@@ -1,19 +1,10 @@
 """The desk: takes the calls on one new object as a row of numbers, gives back the answers."""
 
 from learntpath.learning import Learning
-from learntpath.replies import reply_begin, reply_is, reply_last, reply_most
-from learntpath.replies import reply_next, reply_rule, reply_things
+from learntpath.replies import reply_to
 
-# By a call's number: what answers it, and how many whole numbers stand behind its number.
-CALLS = {
-    0: (reply_begin, 0),
-    1: (reply_things, 1),
-    2: (reply_rule, 2),
-    3: (reply_is, 1),
-    4: (reply_most, 1),
-    5: (reply_next, 1),
-    6: (reply_last, 1),
-}
+# How many whole numbers stand behind a call's number.
+WIDTHS = {0: 0, 1: 1, 2: 2, 3: 1, 4: 1, 5: 1, 6: 1}
 
 
 def answers(calls):
@@ -22,10 +13,9 @@ def answers(calls):
     told = []
     at = 0
     while at < len(calls):
-        entry = CALLS[calls[at]]
-        reply = entry[0]
-        end = at + 1 + entry[1]
-        answer = reply(learning, calls[at + 1:end])
+        number = calls[at]
+        end = at + 1 + WIDTHS[number]
+        answer = reply_to(number, learning, calls[at + 1:end])
         told.append(len(answer))
         told.extend(answer)
         at = end

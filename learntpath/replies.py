@@ -70,3 +70,20 @@ def reply_last(learning, numbers):
     if refusal < 0:
         return [refusal]
     return [0, things_last(learning.rules, numbers[0])]
+
+
+REPLIES = {
+    0: reply_begin,
+    1: reply_things,
+    2: reply_rule,
+    3: reply_is,
+    4: reply_most,
+    5: reply_next,
+    6: reply_last,
+}
+
+
+def reply_to(number, learning, numbers):
+    """The answer to the call of this number, with the numbers that stand behind it."""
+    reply = REPLIES[number]
+    return reply(learning, numbers)
