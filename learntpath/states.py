@@ -1,6 +1,11 @@
 """States under rules; a rule is a pair: a thing, and the set that is to be known first."""
 
 
+def things_in(known):
+    """The things of a set, rising."""
+    return [thing for thing in range(known.bit_length()) if ((known >> thing) & 1) == 1]
+
+
 def taught(rules, known):
     """The things that some rule teaches whoever knows the set known, also those in it."""
     things = 0
@@ -40,3 +45,15 @@ def things_last(rules, state):
             found = found | thing
         thing = thing << 1
     return found
+
+
+def hull_of(rules, everything, known):
+    """All things but those in the greatest state that has nothing of the set known."""
+    return everything - greatest_state(rules, everything & ~known)
+
+
+def corners_of(rules, everything, known):
+    """The things of the hull of a set without which that is still convex."""
+    outside = everything - hull_of(rules, everything, known)
+    # A convex set is what a state leaves: a thing can go where that state, grown by it, is one still.
+    return things_next(rules, outside)

@@ -3,6 +3,7 @@
 from learntpath.desk import answers
 
 FULL = 4294967295
+HIGHEST = 18446744073709551615
 LEAST = -2147483648
 GREATEST = 2147483647
 
@@ -31,6 +32,45 @@ def next_(s):
 
 def last(s):
     return [6, s]
+
+
+COUNT = [7]
+ORDERS = [8]
+
+
+def order(k, first):
+    return [9, k, first]
+
+
+def paths(x, first):
+    return [10, x, first]
+
+
+def hull(s):
+    return [11, s]
+
+
+def corners(s):
+    return [12, s]
+
+
+def plan(costs, first):
+    return [13, first, len(costs), *costs]
+
+
+def free(n):
+    """So many things, each of which can be learnt from nothing."""
+    return [things(n), *[rule(x, 0) for x in range(n)]]
+
+
+def chain(n):
+    """Each thing by whoever knows the one before it, the last one's rule foremost."""
+    return [things(n), *[rule(x, 1 << (x - 1)) for x in range(n - 1, 0, -1)], rule(0, 0)][:n + 1]
+
+
+# 0 from nothing; 1 from nothing; 2 by whoever knows 0, or 1; 3 by whoever knows 1 and 2.
+# 4 only by whoever knows 5, and 5 only by whoever knows 4; nothing teaches 6.
+MIXED = [things(7), rule(3, 6), rule(2, 2), rule(2, 1), rule(1, 0), rule(0, 0), rule(4, 32), rule(5, 16)]
 
 
 def bits(*numbers):
@@ -77,3 +117,8 @@ def ask(*calls):
 def ask_last(*calls):
     """The answer of the last of these calls."""
     return ask(*calls)[-1]
+
+
+def told_of(start, calls):
+    """The answers of the calls behind a start."""
+    return ask(*start, *calls)[len(start):]

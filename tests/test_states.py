@@ -3,24 +3,11 @@
 import random
 import unittest
 
-from desk_calls import FULL, ask, ask_last, bits, first_difference, is_, last, most, next_, rule, things
-
-# 0 from nothing; 1 from nothing; 2 by whoever knows 0, or 1; 3 by whoever knows 1 and 2.
-# 4 only by whoever knows 5, and 5 only by whoever knows 4; nothing teaches 6.
-MIXED = [things(7), rule(3, bits(1, 2)), rule(2, bits(1)), rule(2, bits(0)), rule(1, 0), rule(0, 0),
-         rule(4, bits(5)), rule(5, bits(4))]
+from desk_calls import FULL, MIXED
+from desk_calls import ask_last, bits, chain, first_difference, is_, last, most, next_, rule, things, told_of
 
 STATES = sorted([0, bits(0), bits(1), bits(0, 1), bits(0, 2), bits(1, 2), bits(0, 1, 2), bits(1, 2, 3),
                  bits(0, 1, 2, 3)])
-
-
-def chain(n):
-    """Each thing by whoever knows the one before it, the last one's rule foremost."""
-    return [things(n), *[rule(x, 1 << (x - 1)) for x in range(n - 1, 0, -1)], rule(0, 0)]
-
-
-def told_of(start, calls):
-    return ask(*start, *calls)[len(start):]
 
 
 class Is(unittest.TestCase):
